@@ -13,6 +13,7 @@ WORTH = 5
 
 WORDS = ("sum", "most", "last", "all")
 MOST_KEYS = 6
+MOST_WORTH = 999
 
 
 def check_rules(rules):
@@ -24,10 +25,20 @@ def check_rules(rules):
             raise BadRules("a rule is one of the words sum, most, last, all")
 
 
+def is_key(thing, rules):
+    """Tell whether a thing is a key of these rules."""
+    return is_whole(thing, 0, len(rules) - 1)
+
+
 def check_key(key, rules):
     """Refuse what is no key of these rules."""
-    if not is_whole(key, 0, len(rules) - 1):
+    if not is_key(key, rules):
         raise BadKey(f"a key is a number from 0 to {len(rules) - 1}")
+
+
+def is_worth(thing):
+    """Tell whether a thing is a worth."""
+    return is_whole(thing, -MOST_WORTH, MOST_WORTH)
 
 
 def place_of(put):
@@ -73,7 +84,9 @@ def held_by_last(puts):
 
 def held_by_all(puts):
     """Tell the worths of the puts that no other one came behind, as their sites and numbers rise."""
-    ends = [put for put in puts if not is_followed(put, puts)]
+    # The latest ones stand first, because one of them is likely to have come behind.
+    latest = sorted(puts, key=turn_of, reverse=True)
+    ends = [put for put in puts if not is_followed(put, latest)]
     return [put[WORTH] for put in sorted(ends, key=place_of)]
 
 

@@ -1,11 +1,22 @@
 """Tokens: a count for each site, which stand for the first so many puts that each site made."""
 
 from causalports.checks import is_whole
-from causalports.errors import BadToken
+from causalports.errors import BadSite, BadToken
 
 FEWEST_SITES = 2
 MOST_SITES = 5
 MOST_PUTS = 999
+
+
+def check_many(many):
+    """Refuse what is not how many sites there may be."""
+    if not is_whole(many, FEWEST_SITES, MOST_SITES):
+        raise BadSite(f"there are {FEWEST_SITES} to {MOST_SITES} sites")
+
+
+def nothing(many):
+    """Tell the token of so many sites that stands for no put."""
+    return (0,) * many
 
 
 def is_token(thing):
@@ -15,6 +26,11 @@ def is_token(thing):
     if not FEWEST_SITES <= len(thing) <= MOST_SITES:
         return False
     return all([is_whole(count, 0, MOST_PUTS) for count in thing])
+
+
+def is_token_of(thing, many):
+    """Tell whether a thing is a token of just so many sites."""
+    return is_token(thing) and len(thing) == many
 
 
 def check_pair(one, other):
@@ -29,6 +45,11 @@ def check_pair(one, other):
 def is_within(one, other):
     """Tell whether the first of two tokens is no more than the other in any count."""
     return all([mine <= theirs for mine, theirs in zip(one, other)])
+
+
+def stepped(token, site):
+    """Tell the token that stands for the next put of a site, too."""
+    return token[:site] + (token[site] + 1,) + token[site + 1:]
 
 
 def joined(one, other):

@@ -11,6 +11,38 @@ INTERFACE = {
                "BadWants", "NotYet", "Stale", "BadLogs", "BadText"),
     "tokens": ("joined", "compared"),
     "rules": ("plainly",),
+    "sites": ("Site",),
+    "sessions": ("Session",),
+    "judging": ("judged", "ordered"),
+    "notes": ("written", "written_log", "read", "read_log"),
+}
+
+# What is handed in by its place, and behind a star what is handed in by its name or left out.
+PARAMETERS = {
+    "tokens.joined": "one, other",
+    "tokens.compared": "one, other",
+    "rules.plainly": "puts, rules, key",
+    "sites.Site.__init__": "self, number, many, rules",
+    "sites.Site.put": "self, now, key, worth, *, token=None",
+    "sites.Site.look": "self, now, key, *, token=None, within=None",
+    "sites.Site.letter": "self, now, to",
+    "sites.Site.hear": "self, letter",
+    "sites.Site.applied": "self",
+    "sites.Site.waiting": "self",
+    "sites.Site.log": "self",
+    "sites.Site.kept": "self",
+    "sites.Site.stale": "self, now",
+    "sessions.Session.__init__": "self, many, *, wants=ALL_WANTS",
+    "sessions.Session.look": "self, site, now, key, *, within=None",
+    "sessions.Session.put": "self, site, now, key, worth",
+    "sessions.Session.tokens": "self",
+    "sessions.Session.take": "self, *, mine=None, seen=None",
+    "judging.judged": "many, rules, logs",
+    "judging.ordered": "many, rules, logs",
+    "notes.written": "token",
+    "notes.written_log": "log",
+    "notes.read": "text",
+    "notes.read_log": "text",
 }
 
 # The language allows some names out of these modules of the library, and none out of others.
@@ -35,6 +67,18 @@ class Form(unittest.TestCase):
             defined = [row.name for row in tree.body if isinstance(row, (ast.FunctionDef, ast.ClassDef))]
             for part in parts:
                 self.assertEqual(defined.count(part), 1, part)
+
+    def test_each_function_and_method_has_the_parameters_of_the_interface(self):
+        for path, parameters in PARAMETERS.items():
+            file, *names = path.split(".")
+            found = ast.parse((PACKAGE / f"{file}.py").read_text(encoding="utf-8"))
+            for name in names:
+                # In the very body of the class: a method that is inherited is none here.
+                found = [row for row in found.body if getattr(row, "name", None) == name]
+                self.assertEqual(len(found), 1, path)
+                found = found[0]
+            told = ast.parse(f"lambda {parameters}: 0").body[0].value.args
+            self.assertEqual(ast.unparse(found.args), ast.unparse(told), path)
 
     def test_sizes_and_characters(self):
         for name, text in sources():
